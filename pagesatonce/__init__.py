@@ -1,0 +1,1 @@
+"""Pagesatonce: texts that include one another, published at once."""
