@@ -10,11 +10,17 @@ _BOUNDS = ((1, 3), (1, 100), (1, 4), (1, 100), (1, 400), (1, 200), (1, 2000))
 _DEPENDENCIES_MOST = 30
 
 
+def are_options(options):
+    """Whether these integers are options, each within its bounds."""
+    if len(options) != len(_BOUNDS):
+        return False
+    return all([least <= value <= most for value, (least, most) in zip(options, _BOUNDS)])
+
+
 def check_options(options):
     """Raises OutOfRange if an option is not within its bounds."""
-    for value, (least, most) in zip(options, _BOUNDS):
-        if not least <= value <= most:
-            raise OutOfRange("options")
+    if not are_options(options):
+        raise OutOfRange("options")
 
 
 def duration(options, many):
