@@ -19,6 +19,13 @@ _WAIT = ("wait",)
 _JOB = "job"
 
 
+def time_after(clock, ticks):
+    """The time so many ticks later; raises OutOfRange if so many may not pass."""
+    if not 0 <= ticks <= TICKS_MOST or clock + ticks > TIME_MOST:
+        raise OutOfRange("ticks")
+    return clock + ticks
+
+
 class Publisher:
     """Sources and requested pages that are edited, and the version that was published last."""
 
@@ -55,9 +62,7 @@ class Publisher:
 
     def advance(self, ticks):
         """Lets time pass; the clock."""
-        if not 0 <= ticks <= TICKS_MOST or self._clock + ticks > TIME_MOST:
-            raise OutOfRange("ticks")
-        last = self._clock + ticks
+        last = time_after(self._clock, ticks)
         while self.turn(last):
             pass
         self._clock = last

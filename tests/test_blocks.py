@@ -166,6 +166,9 @@ class Decoding(unittest.TestCase):
         block = piece(0, 1, 0, "abc")
         for other in (block[:31], block + [80], block[:-2] + [80], block[:30] + [0, 0, 80]):
             self.assertIsNone(decode_piece(other))
+        for at in range(32):
+            for number in (-1, 256):
+                self.assertIsNone(decode_piece(block[:at] + [number] + block[at + 1:]))
 
     def test_the_block_that_is_handed_in_stays_as_it_is(self):
         for block in (piece(1, 2, 3, "abc"), piece(2, 1, 3, "abc"), list(ZEROS)):
